@@ -1,0 +1,1 @@
+"""Which systems run beside one another."""
