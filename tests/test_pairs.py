@@ -10,7 +10,7 @@ class Before(unittest.TestCase):
         self.assertEqual(ask(*plain(4), before(0, 1), before(2, 3), before(0, 3), before(2, 1))[4:],
                          [[1], [2], [3], [4]])
 
-    def test_all_pairs_of_ten_systems(self):
+    def test_as_many_pairs_as_calls_leave_room_for(self):
         pairs = [(first, second) for first in range(10) for second in range(first + 1, 10)][:30]
         found = ask(*plain(10), *[before(second, first) for first, second in pairs])
         self.assertEqual(found[10:], [[count] for count in range(1, 31)])
