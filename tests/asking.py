@@ -4,6 +4,9 @@ from systemrounds.tick import answers
 
 ORDER = [4]
 ROUNDS = [5]
+UNTOLD = [6]
+TIME = [8]
+SYSTEMS = [10]
 TOP = 4294967295
 
 
@@ -23,11 +26,19 @@ def free(first, second):
     return [3, first, second]
 
 
+def way(first, second):
+    return [7, first, second]
+
+
+def apart(first, second):
+    return [9, first, second]
+
+
 def joined(calls):
     return [number for call in calls for number in call]
 
 
-def apart(numbers):
+def split(numbers):
     """The answers, each as a list without its count."""
     found = []
     place = 0
@@ -42,7 +53,7 @@ def apart(numbers):
 
 
 def ask(*calls):
-    found = apart(answers(joined(calls)))
+    found = split(answers(joined(calls)))
     if len(found) != len(calls):
         raise AssertionError(f"{len(found)} answers to {len(calls)} calls")
     return found
@@ -50,6 +61,14 @@ def ask(*calls):
 
 def ask_last(*calls):
     return ask(*calls)[-1]
+
+
+def reader(*kinds, cost=1):
+    return system(cost, kinds, [])
+
+
+def writer(*kinds, cost=1):
+    return system(cost, [], kinds)
 
 
 def plain(count):

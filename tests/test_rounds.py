@@ -2,19 +2,12 @@
 
 import unittest
 
-from tests.asking import ORDER, ROUNDS, ask, ask_last, before, free, gone, plain, rounds_of, system
+from tests.asking import (
+    ORDER, ROUNDS, ask, ask_last, before, free, gone, plain, reader, rounds_of, system, writer)
 
 
 def rounds(*calls):
     return rounds_of(ask_last(*calls, ROUNDS))
-
-
-def reader(*kinds):
-    return system(1, kinds, [])
-
-
-def writer(*kinds):
-    return system(1, [], kinds)
 
 
 class RoundsAnswer(unittest.TestCase):

@@ -4,7 +4,8 @@ import itertools
 import random
 import unittest
 
-from tests.asking import ORDER, ROUNDS, ask, before, free, gone, rounds_of, system
+from tests.asking import (
+    ORDER, ROUNDS, SYSTEMS, TIME, UNTOLD, apart, ask, before, free, gone, rounds_of, system, way)
 
 LINES = 300
 
@@ -15,6 +16,7 @@ class Words:
     def __init__(self):
         self.next_number = 0
         self.systems = {}
+        self.costs = {}
         self.pairs = set()
 
     def system(self, cost, reads, writes):
@@ -26,6 +28,7 @@ class Words:
         if len(self.systems) == 10:
             return [-5]
         self.systems[self.next_number] = (set(reads), set(writes))
+        self.costs[self.next_number] = cost
         self.next_number += 1
         return [self.next_number - 1]
 
@@ -70,19 +73,77 @@ class Words:
         return found
 
     def clash(self, one, other):
+        """The kinds for which they clash."""
         reads, writes = self.systems[one]
         others_reads, others_writes = self.systems[other]
-        return bool(writes & (others_reads | others_writes) or others_writes & reads)
+        return writes & (others_reads | others_writes) | others_writes & (reads | writes)
 
-    def in_rounds(self):
+    def needs(self):
+        """Of each system, in order: those that must be over before it, in order."""
         told = self.told()
         order = self.in_order()
+        return {number: [other for other in order[:at] if (other, number) in told or self.clash(other, number)]
+                for at, number in enumerate(order)}
+
+    def in_rounds(self):
         place = {}
-        for at, number in enumerate(order):
-            must = [other for other in order[:at] if (other, number) in told or self.clash(other, number)]
+        for number, must in self.needs().items():
             place[number] = 1 + max([place[other] for other in must], default=-1)
         count = 1 + max(place.values(), default=-1)
-        return [[number for number in order if place[number] == turn] for turn in range(count)]
+        return [[number for number in place if place[number] == turn] for turn in range(count)]
+
+    def rounds(self):
+        rounds = self.in_rounds()
+        return [len(rounds)] + [number for members in rounds for number in [len(members)] + members]
+
+    def order(self):
+        return [len(self.systems)] + self.in_order()
+
+    def untold(self):
+        told = self.told()
+        found = [(low, high) for low, high in itertools.combinations(sorted(self.systems), 2)
+                 if self.clash(low, high) and not {(low, high), (high, low)} & told]
+        return [len(found)] + [number for pair in found for number in pair]
+
+    def way(self, first, second):
+        if first == second or not {first, second} <= set(self.systems):
+            return [-2]
+        rows = [(first,)]
+        while rows:
+            arrived = [row for row in rows if row[-1] == second]
+            if arrived:
+                return [len(arrived[0])] + list(min(arrived))
+            rows = [row + (later,) for row in rows for earlier, later in self.pairs if earlier == row[-1]]
+        return [-6]
+
+    def time_over(self, number, needs):
+        """What the costliest of all rows costs that end with it, in which each waits for the one before it."""
+        costs = []
+        rows = [(number,)]
+        while rows:
+            costs += [sum(self.costs[member] for member in row) for row in rows]
+            rows = [row + (other,) for row in rows for other in needs[row[-1]]]
+        return max(costs)
+
+    def time(self):
+        needs = self.needs()
+        over = {number: self.time_over(number, needs) for number in needs}
+        lasts = max(over.values(), default=0)
+        chain = [number for number in over if over[number] == lasts][:1]
+        while chain and over[chain[0]] != self.costs[chain[0]]:
+            began = over[chain[0]] - self.costs[chain[0]]
+            chain.insert(0, [other for other in needs[chain[0]] if over[other] == began][0])
+        return [lasts, len(chain)] + chain
+
+    def apart(self, first, second):
+        if not {first, second} <= set(self.systems):
+            return [-2]
+        told = self.told()
+        kinds = sorted(self.clash(first, second))
+        return [1 if (first, second) in told else 2 if (second, first) in told else 0, len(kinds)] + kinds
+
+    def all_systems(self):
+        return [len(self.systems)] + sorted(self.systems)
 
 
 def some_kinds(chance):
@@ -94,7 +155,8 @@ def some_kinds(chance):
 
 def some_call(chance, words):
     """A call and the answer that the words ask for."""
-    name = chance.choice(("system", "system", "gone", "free", "order", "rounds") + ("before",) * 4)
+    name = chance.choice(("system", "system", "gone", "free", "order", "rounds", "untold", "way", "way", "time",
+                          "time", "apart", "apart", "systems") + ("before",) * 9)
     number = chance.randrange(words.next_number + 2)
     other = chance.randrange(words.next_number + 2)
     if name == "system":
@@ -109,10 +171,19 @@ def some_call(chance, words):
         return before(number, other), words.before(number, other)
     if name == "free":
         return free(number, other), words.free(number, other)
+    if name == "way":
+        return way(number, other), words.way(number, other)
+    if name == "apart":
+        return apart(number, other), words.apart(number, other)
     if name == "order":
-        return ORDER, [len(words.systems)] + words.in_order()
-    rounds = words.in_rounds()
-    return ROUNDS, [len(rounds)] + [number for members in rounds for number in [len(members)] + members]
+        return ORDER, words.order()
+    if name == "rounds":
+        return ROUNDS, words.rounds()
+    if name == "untold":
+        return UNTOLD, words.untold()
+    if name == "time":
+        return TIME, words.time()
+    return SYSTEMS, words.all_systems()
 
 
 def some_line(chance, begin, count):
@@ -123,8 +194,10 @@ def some_line(chance, begin, count):
     for place in range(begin):
         reads = sorted(chance.sample(range(16), chance.randrange(3)))
         writes = sorted(chance.sample(range(16), chance.randrange(3)))
-        calls.append(system(1, reads, writes))
-        wanted.append(words.system(1, reads, writes))
+        # Low costs, so that many are over at the same time.
+        cost = chance.randrange(1, 4)
+        calls.append(system(cost, reads, writes))
+        wanted.append(words.system(cost, reads, writes))
     while len(calls) < count:
         call, answer = some_call(chance, words)
         calls.append(call)
@@ -143,12 +216,59 @@ def run(words, row):
     return world
 
 
+def row_that_keeps(chance, numbers, pairs):
+    """All numbers in a row by chance, in which the first of each of the pairs is ahead of the second."""
+    left = list(numbers)
+    row = []
+    while left:
+        row.append(chance.choice([number for number in left if not any((other, number) in pairs for other in left)]))
+        left.remove(row[-1])
+    return row
+
+
 class AgainstTheWords(unittest.TestCase):
     def test_many_lines(self):
         chance = random.Random(92)
         for line in range(LINES):
             words, calls, wanted = some_line(chance, line % 11, 40)
             self.assertEqual(ask(*calls), wanted, calls)
+
+    def test_ways_among_many_pairs(self):
+        chance = random.Random(7)
+        for line in range(LINES):
+            words = Words()
+            calls = [system() for place in range(10)]
+            wanted = [words.system(1, [], []) for place in range(10)]
+            row = chance.sample(range(10), 10)
+            pairs = [(first, second) for at, first in enumerate(row) for second in row[at + 1:at + 5]]
+            for first, second in chance.sample(pairs, 20):
+                calls.append(before(first, second))
+                wanted.append(words.before(first, second))
+            for place in range(10):
+                at = chance.randrange(3)
+                calls.append(way(row[at], row[-1 - place % 4]))
+                wanted.append(words.way(row[at], row[-1 - place % 4]))
+            self.assertEqual(ask(*calls), wanted, calls)
+
+    def test_rounds_are_as_few_as_can_be(self):
+        # Were each to cost 1, the tick would last as many rounds as wait for one another.
+        chance = random.Random(15)
+        for line in range(LINES):
+            words, calls, wanted = some_line(chance, 8, 39)
+            words.costs = dict.fromkeys(words.costs, 1)
+            self.assertEqual(ask(*calls, ROUNDS)[-1][0], words.time()[0], calls)
+
+    def test_all_pairs_whose_order_matters_though_nobody_told_it_are_told(self):
+        chance = random.Random(58)
+        for line in range(LINES):
+            words, calls, wanted = some_line(chance, 8, 38)
+            found = ask(*calls, ORDER, UNTOLD)
+            order = found[-2][1:]
+            untold = list(zip(found[-1][1::2], found[-1][2::2]))
+            kept = words.told() | {tuple(sorted(pair, key=order.index)) for pair in untold}
+            for turn in range(3):
+                # Whatever is neither told nor untold may be turned round: the world is the same.
+                self.assertEqual(run(words, row_that_keeps(chance, order, kept)), run(words, order), calls)
 
     def test_round_by_round_the_world_is_that_of_all_in_order(self):
         chance = random.Random(29)
